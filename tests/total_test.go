@@ -6,6 +6,7 @@ import (
 	"go/token"
 	"math"
 	"reflect"
+	"slices"
 	"strings"
 	"testing"
 
@@ -25,10 +26,39 @@ func functionsOfChapter1() map[string]any {
 	}
 }
 
+func functionsOfChapter2() map[string]any {
+	return map[string]any{
+		"IsPlate": impl.IsPlate, "ComparePlates": impl.ComparePlates, "NextPlate": impl.NextPlate,
+		"CountBetween": impl.CountBetween, "MiddlePlate": impl.MiddlePlate, "ArePlates": impl.ArePlates,
+		"PlaceOfPlate": impl.PlaceOfPlate, "InsertBehind": impl.InsertBehind, "RoomBehind": impl.RoomBehind,
+		"AddPlate": impl.AddPlate, "DropPlate": impl.DropPlate, "GapsOfPlates": impl.GapsOfPlates,
+		"LettersOf": impl.LettersOf, "RenumberPlates": impl.RenumberPlates, "OldPlate": impl.OldPlate,
+		"JoinPlates": impl.JoinPlates, "PartPlates": impl.PartPlates, "PlateText": impl.PlateText,
+		"ParsePlate": impl.ParsePlate, "PlatesText": impl.PlatesText, "ParsePlates": impl.ParsePlates,
+	}
+}
+
+// functionsByFile has the functions of all chapters that are there, by the file of each chapter.
+func functionsByFile() map[string]map[string]any {
+	return map[string]map[string]any{
+		"l1_number.go": functionsOfChapter1(),
+		"l2_insert.go": functionsOfChapter2(),
+	}
+}
+
+// eachFunction runs a test for each function of each chapter.
+func eachFunction(t *testing.T, test func(t *testing.T, name string, function reflect.Value)) {
+	for _, functions := range functionsByFile() {
+		for name, f := range functions {
+			t.Run(name, func(t *testing.T) { test(t, name, reflect.ValueOf(f)) })
+		}
+	}
+}
+
 func someInts() []any {
 	return []any{
-		math.MinInt, math.MinInt + 1, -1000000, -1, 0, 1, 2, 5, 8, 9, 10, 11, 15, 1000, 1001,
-		100000, 100001, 1000000, 1000001, math.MaxInt32 + 1, math.MaxInt - 1, math.MaxInt,
+		math.MinInt, math.MinInt + 1, -1000000, -1, 0, 1, 2, 5, 8, 9, 10, 11, 15, 58, 59, 60, 61, 1000, 1001,
+		9999, 10000, 100000, 100001, 1000000, 1000001, math.MaxInt32 + 1, math.MaxInt - 1, math.MaxInt,
 	}
 }
 
@@ -42,16 +72,66 @@ func manyStreets() []any {
 	return streets
 }
 
+func manyPlates() []any {
+	var plates []any
+	for _, number := range []int{math.MinInt, -1, 0, 1, 12, 13, 9999, 10000, math.MaxInt} {
+		for _, letter := range []int{math.MinInt, -1, 0, 1, 3, 26, 27, math.MaxInt} {
+			plates = append(plates, impl.Plate{Number: number, Letter: letter})
+		}
+	}
+	return plates
+}
+
+// spacious copies a list to the beginning of one with room behind its end, full of behind.
+func spacious[T any](list []T, behind T) []T {
+	const room = 7
+	whole := append([]T(nil), list...)
+	for range room {
+		whole = append(whole, behind)
+	}
+	return whole[:len(list)]
+}
+
+// somePlateLists are given with room behind their ends, with a plate there that would fit.
+func somePlateLists() []any {
+	lists := []any{[]impl.Plate(nil)}
+	for _, list := range [][]impl.Plate{
+		platesOf(), platesOf([2]int{1, 0}), platesOf([2]int{9999, 26}), platesOf([2]int{12, 0}, [2]int{12, 3}, [2]int{15, 0}),
+		platesOf([2]int{12, 25}, [2]int{12, 26}, [2]int{13, 0}), platesOf([2]int{1, 0}, [2]int{9999, 26}),
+		platesOf([2]int{12, 3}, [2]int{12, 0}), platesOf([2]int{12, 0}, [2]int{12, 0}), platesOf([2]int{0, 0}),
+		platesOf([2]int{12, 27}), platesOf([2]int{12, -1}), platesOf([2]int{12, 0}, [2]int{10000, 0}),
+		platesOf([2]int{math.MinInt, math.MinInt}, [2]int{math.MaxInt, math.MaxInt}), platesOf([2]int{12, math.MaxInt}),
+		numbered(59), numbered(60), numbered(61), numbered(5000),
+	} {
+		lists = append(lists, spacious(list, impl.Plate{Number: 9999, Letter: 26}))
+	}
+	return lists
+}
+
+// platesOf has plates, or what are none, by their numbers and letters.
+func platesOf(pairs ...[2]int) []impl.Plate {
+	var list []impl.Plate
+	for _, pair := range pairs {
+		list = append(list, impl.Plate{Number: pair[0], Letter: pair[1]})
+	}
+	return list
+}
+
+// numbered has plates without letters, even more than a list may have.
+func numbered(count int) []impl.Plate {
+	var list []impl.Plate
+	for number := 1; number <= count; number++ {
+		list = append(list, impl.Plate{Number: number})
+	}
+	return list
+}
+
 // someLists are given with room behind their ends, where a function that appends to an argument would write.
 func someLists() []any {
 	lists := []any{[]int(nil), []int{}}
 	for _, number := range []int{math.MinInt, -1, 0, 1, 20, 100000, 100001, math.MaxInt} {
 		for _, length := range []int{1, 2, 9, 10, 11, 1000} {
-			list := make([]int, length, length+7)
-			for i := range list[:cap(list)] {
-				list[:cap(list)][i] = number
-			}
-			lists = append(lists, list)
+			lists = append(lists, spacious(slices.Repeat([]int{number}, length), number))
 		}
 	}
 	return append(lists, []int{9, 8, 7, 6, 5, 4, 3, 20, 1, 0})
@@ -60,6 +140,8 @@ func someLists() []any {
 func someTexts() []any {
 	return []any{
 		"", "r", "o5", "u1000", "u1001", "r0", "o05", "o-5", "5", " ", "\n", "\x00", "\xff", "o\xff\xfe5", "ö5", "o５",
+		"12", "12c", "9999z", "12,12c,15", "1,9999z", "0", "10000", "12A", "012", "12cc", "12-", "-12", "12,", ",12", "12,,13", "13,12", "c",
+		strings.Repeat("1,", 5000) + "1", strings.Repeat(",", 5000), strings.Repeat("9", 5000) + "z",
 		"u99999999999999999999", strings.Repeat("o", 5000), "u" + strings.Repeat("9", 5000), "r" + strings.Repeat("0", 5000) + "1",
 	}
 }
@@ -75,6 +157,10 @@ func valuesOf(t *testing.T, kind reflect.Type) []any {
 		return someLists()
 	case reflect.TypeFor[string]():
 		return someTexts()
+	case reflect.TypeFor[impl.Plate]():
+		return manyPlates()
+	case reflect.TypeFor[[]impl.Plate]():
+		return somePlateLists()
 	}
 	t.Fatalf("no values of type %v", kind)
 	return nil
@@ -102,17 +188,37 @@ func eachCall(t *testing.T, function reflect.Value, visit func(arguments []refle
 	choose(0)
 }
 
+// wholeCopy copies a list with what is behind its end.
+func wholeCopy[T any](list []T) []T {
+	return append([]T(nil), list[:cap(list)]...)
+}
+
 // kept copies lists with what is behind their ends.
 func kept(arguments []reflect.Value) []any {
 	var copies []any
 	for _, argument := range arguments {
-		if list, ok := argument.Interface().([]int); ok {
-			copies = append(copies, append([]int(nil), list[:cap(list)]...))
-			continue
+		switch value := argument.Interface().(type) {
+		case []int:
+			copies = append(copies, wholeCopy(value))
+		case []impl.Plate:
+			copies = append(copies, wholeCopy(value))
+		default:
+			copies = append(copies, value)
 		}
-		copies = append(copies, argument.Interface())
 	}
 	return copies
+}
+
+// cropped gives lists without any room behind their ends.
+func cropped(arguments []reflect.Value) []reflect.Value {
+	var tight []reflect.Value
+	for _, argument := range arguments {
+		if argument.Kind() == reflect.Slice {
+			argument = argument.Slice3(0, argument.Len(), argument.Len())
+		}
+		tight = append(tight, argument)
+	}
+	return tight
 }
 
 type region struct{ from, to uintptr }
@@ -153,6 +259,16 @@ func doOverlap(regions []region) bool {
 	return false
 }
 
+// doMeet compares arguments with results alone, as a call may have the same list twice.
+func doMeet(ours, theirs []region) bool {
+	for _, a := range ours {
+		if slices.ContainsFunc(theirs, func(b region) bool { return doOverlap([]region{a, b}) }) {
+			return true
+		}
+	}
+	return false
+}
+
 func isNothing(v reflect.Value) bool {
 	return v.IsZero() || v.Kind() == reflect.Slice && v.Len() == 0
 }
@@ -171,9 +287,8 @@ func callSafely(function reflect.Value, arguments []reflect.Value) (results []re
 	return function.Call(arguments), nil
 }
 
-func TestFunctionsOfChapter1AcceptAllArguments(t *testing.T) {
-	for name, f := range functionsOfChapter1() {
-		function := reflect.ValueOf(f)
+func TestFunctionsAcceptAllArguments(t *testing.T) {
+	eachFunction(t, func(t *testing.T, name string, function reflect.Value) {
 		succeeded, failed := 0, 0
 		eachCall(t, function, func(arguments []reflect.Value) {
 			before := kept(arguments)
@@ -199,26 +314,39 @@ func TestFunctionsOfChapter1AcceptAllArguments(t *testing.T) {
 		if succeeded == 0 || failed == 0 {
 			t.Errorf("%s: %d calls succeed, %d fail; some of both are needed", name, succeeded, failed)
 		}
-	}
+	})
 }
 
-func TestListsOfChapter1ShareNoMemory(t *testing.T) {
-	for name, f := range functionsOfChapter1() {
-		function := reflect.ValueOf(f)
+func TestListsShareNoMemory(t *testing.T) {
+	eachFunction(t, func(t *testing.T, name string, function reflect.Value) {
 		eachCall(t, function, func(arguments []reflect.Value) {
 			first := function.Call(arguments)
 			if len(regionsOfAll(first)) == 0 {
 				return
 			}
 			second := function.Call(arguments)
-			if doOverlap(regionsOfAll(arguments, first, second)) {
+			if doOverlap(regionsOfAll(first, second)) || doMeet(regionsOfAll(arguments), regionsOfAll(first, second)) {
 				t.Fatalf("%s%v shares memory", name, interfacesOf(arguments))
 			}
 			if !reflect.DeepEqual(interfacesOf(first), interfacesOf(second)) {
 				t.Fatalf("%s%v is another one when called again", name, interfacesOf(arguments))
 			}
 		})
-	}
+	})
+}
+
+func TestNothingBehindTheEndIsRead(t *testing.T) {
+	eachFunction(t, func(t *testing.T, name string, function reflect.Value) {
+		eachCall(t, function, func(arguments []reflect.Value) {
+			if len(regionsOfAll(arguments)) == 0 {
+				return
+			}
+			spacious, tight := function.Call(arguments), function.Call(cropped(arguments))
+			if !reflect.DeepEqual(interfacesOf(spacious), interfacesOf(tight)) {
+				t.Fatalf("%s%v is another one without room behind the ends", name, interfacesOf(arguments))
+			}
+		})
+	})
 }
 
 // The list has its tenth number behind its end, where it is not to be read.
@@ -233,16 +361,17 @@ func TestPlatesFromReadsNothingBehindTheEnd(t *testing.T) {
 	}
 }
 
-func TestAllFunctionsOfChapter1AreCalled(t *testing.T) {
-	file, err := parser.ParseFile(token.NewFileSet(), "../impl/l1_number.go", nil, 0)
-	if err != nil {
-		t.Fatal(err)
-	}
-	functions := functionsOfChapter1()
-	for _, declared := range file.Decls {
-		f, ok := declared.(*ast.FuncDecl)
-		if ok && f.Recv == nil && f.Name.IsExported() && functions[f.Name.Name] == nil {
-			t.Errorf("%s is not called with all arguments", f.Name.Name)
+func TestAllFunctionsAreCalled(t *testing.T) {
+	for name, functions := range functionsByFile() {
+		file, err := parser.ParseFile(token.NewFileSet(), "../impl/"+name, nil, 0)
+		if err != nil {
+			t.Fatal(err)
+		}
+		for _, declared := range file.Decls {
+			f, ok := declared.(*ast.FuncDecl)
+			if ok && f.Recv == nil && f.Name.IsExported() && functions[f.Name.Name] == nil {
+				t.Errorf("%s is not called with all arguments", f.Name.Name)
+			}
 		}
 	}
 }
