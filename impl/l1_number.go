@@ -54,6 +54,10 @@ func within(number, least, greatest int) bool {
 	return least <= number && number <= greatest
 }
 
+func otherSide(side int) int {
+	return leftSide + rightSide - side
+}
+
 func (s Street) sides() int {
 	if s.Kind == leftAlone {
 		return 1
@@ -146,7 +150,7 @@ func OppositeOf(s Street, number int) (int, bool) {
 		return 0, false
 	}
 	p := s.placeOf(number)
-	return NumberAt(s, leftSide+rightSide-p.side, p.plot)
+	return NumberAt(s, otherSide(p.side), p.plot)
 }
 
 // NextHouses returns the houses on the same side at the plot before and behind, increasing.

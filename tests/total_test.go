@@ -38,11 +38,23 @@ func functionsOfChapter2() map[string]any {
 	}
 }
 
+func functionsOfChapter3() map[string]any {
+	return map[string]any{
+		"AreDeliveries": impl.AreDeliveries, "CountDelivered": impl.CountDelivered, "FewestCrossings": impl.FewestCrossings,
+		"RouteSides": impl.RouteSides, "CountRoutes": impl.CountRoutes, "RouteCost": impl.RouteCost,
+		"RouteCrossings": impl.RouteCrossings, "AroundCost": impl.AroundCost, "AroundIsBetter": impl.AroundIsBetter,
+		"MirrorDeliveries": impl.MirrorDeliveries, "BackDeliveries": impl.BackDeliveries, "JoinDeliveries": impl.JoinDeliveries,
+		"BusiestPart": impl.BusiestPart, "LongestFree": impl.LongestFree, "DeliveriesOf": impl.DeliveriesOf,
+		"NumbersOf": impl.NumbersOf, "RouteNumbers": impl.RouteNumbers,
+	}
+}
+
 // functionsByFile has the functions of all chapters that are there, by the file of each chapter.
 func functionsByFile() map[string]map[string]any {
 	return map[string]map[string]any{
 		"l1_number.go": functionsOfChapter1(),
 		"l2_insert.go": functionsOfChapter2(),
+		"l3_post.go":   functionsOfChapter3(),
 	}
 }
 
@@ -65,7 +77,7 @@ func someInts() []any {
 func manyStreets() []any {
 	var streets []any
 	for _, kind := range []int{math.MinInt, -1, 0, 1, 2, 3, math.MaxInt} {
-		for _, plots := range []int{math.MinInt, -1, 0, 1, 2, 5, 1000, 1001, math.MaxInt} {
+		for _, plots := range []int{math.MinInt, -1, 0, 1, 2, 5, 60, 61, 1000, 1001, math.MaxInt} {
 			streets = append(streets, impl.Street{Kind: kind, Plots: plots})
 		}
 	}
@@ -130,11 +142,14 @@ func numbered(count int) []impl.Plate {
 func someLists() []any {
 	lists := []any{[]int(nil), []int{}}
 	for _, number := range []int{math.MinInt, -1, 0, 1, 20, 100000, 100001, math.MaxInt} {
-		for _, length := range []int{1, 2, 9, 10, 11, 1000} {
+		for _, length := range []int{1, 2, 5, 9, 10, 11, 60, 61, 1000} {
 			lists = append(lists, spacious(slices.Repeat([]int{number}, length), number))
 		}
 	}
-	return append(lists, []int{9, 8, 7, 6, 5, 4, 3, 20, 1, 0})
+	for _, list := range [][]int{{0, 1, 0, 0, 0}, {1, 4, 5, 6, 9}, {1, 2}, {1, 120}, {2, 1}, {9, 8, 7, 6, 5, 4, 3, 20, 1, 0}} {
+		lists = append(lists, spacious(list, list[len(list)-1]+1))
+	}
+	return lists
 }
 
 func someTexts() []any {
@@ -142,6 +157,8 @@ func someTexts() []any {
 		"", "r", "o5", "u1000", "u1001", "r0", "o05", "o-5", "5", " ", "\n", "\x00", "\xff", "o\xff\xfe5", "ö5", "o５",
 		"12", "12c", "9999z", "12,12c,15", "1,9999z", "0", "10000", "12A", "012", "12cc", "12-", "-12", "12,", ",12", "12,,13", "13,12", "c",
 		strings.Repeat("1,", 5000) + "1", strings.Repeat(",", 5000), strings.Repeat("9", 5000) + "z",
+		"-", "l", "r", "b", "lr", "--", "bx", "lrb-l", "lrb-l-", "-----", "lllll", "lrbxl", "LRB-L", "lr\xffbl", "lrb\n",
+		strings.Repeat("-", 60), strings.Repeat("rl", 30), strings.Repeat("b", 60), strings.Repeat("l", 61), strings.Repeat("-", 5000),
 		"u99999999999999999999", strings.Repeat("o", 5000), "u" + strings.Repeat("9", 5000), "r" + strings.Repeat("0", 5000) + "1",
 	}
 }
