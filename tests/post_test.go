@@ -687,6 +687,18 @@ func TestPostFailsWithoutEndOrWidth(t *testing.T) {
 	}
 }
 
+// wantNobodyLeft waits until there are no more goroutines than before.
+func wantNobodyLeft(t *testing.T, before int) {
+	t.Helper()
+	for range 100 {
+		if runtime.NumGoroutine() <= before {
+			return
+		}
+		time.Sleep(10 * time.Millisecond) // the last ones are done, but may not have gone yet
+	}
+	t.Error("goroutines are left:", runtime.NumGoroutine()-before)
+}
+
 // A call that has seen enough must not leave anybody behind who still waits to send plots.
 func TestPostLeavesNobodyBehind(t *testing.T) {
 	before := runtime.NumGoroutine()
@@ -695,11 +707,5 @@ func TestPostLeavesNobodyBehind(t *testing.T) {
 		impl.NumbersOf(impl.Street{Kind: 0, Plots: 60}, "lr"+strings.Repeat("l", 58))
 		impl.FewestCrossings("lrb-l", 2)
 	}
-	for range 100 {
-		if runtime.NumGoroutine() <= before {
-			return
-		}
-		time.Sleep(10 * time.Millisecond) // the last ones are done, but may not have gone yet
-	}
-	t.Error("goroutines are left:", runtime.NumGoroutine()-before)
+	wantNobodyLeft(t, before)
 }

@@ -49,12 +49,23 @@ func functionsOfChapter3() map[string]any {
 	}
 }
 
+func functionsOfChapter4() map[string]any {
+	return map[string]any{
+		"IsCity": impl.IsCity, "CornerDistance": impl.CornerDistance, "DetourOf": impl.DetourOf, "CountShortestWays": impl.CountShortestWays,
+		"FirstShortestWay": impl.FirstShortestWay, "WalkWord": impl.WalkWord, "BackWay": impl.BackWay, "CornersReached": impl.CornersReached,
+		"IsWholeCity": impl.IsWholeCity, "FarthestCorner": impl.FarthestCorner, "MeetingCorner": impl.MeetingCorner, "CenterCorner": impl.CenterCorner,
+		"CloseBlock": impl.CloseBlock, "OpenBlock": impl.OpenBlock, "NeededBlocks": impl.NeededBlocks, "BestToOpen": impl.BestToOpen,
+		"MirrorCity": impl.MirrorCity, "CityText": impl.CityText, "ParseCity": impl.ParseCity,
+	}
+}
+
 // functionsByFile has the functions of all chapters that are there, by the file of each chapter.
 func functionsByFile() map[string]map[string]any {
 	return map[string]map[string]any{
 		"l1_number.go": functionsOfChapter1(),
 		"l2_insert.go": functionsOfChapter2(),
 		"l3_post.go":   functionsOfChapter3(),
+		"l4_avenue.go": functionsOfChapter4(),
 	}
 }
 
@@ -152,12 +163,70 @@ func someLists() []any {
 	return lists
 }
 
+// someCorners are given with room behind their ends, with a number there that would fit.
+func someCorners() []any {
+	lists := []any{[]int(nil), []int{}, slices.Repeat([]int{0}, 100)}
+	for _, list := range [][]int{
+		{0}, {0, 0}, {1, 0}, {0, 1}, {1, 1}, {2, 0}, {2, 1}, {7, 0}, {7, 7}, {0, 0, 0}, {-1, 0}, {0, -1}, {3, 0}, {8, 8},
+		{math.MinInt, math.MaxInt}, {math.MaxInt, math.MinInt},
+	} {
+		lists = append(lists, spacious(list, 0))
+	}
+	return lists
+}
+
+// manyPeople are lists of what may be corners, with room behind all ends.
+func manyPeople() []any {
+	var lists []any
+	corners := someCorners()
+	lists = append(lists, [][]int(nil), [][]int{})
+	for _, corner := range corners {
+		for _, count := range []int{1, 9, 10, 11, 100} {
+			people := slices.Repeat([][]int{corner.([]int)}, count)
+			lists = append(lists, spacious(people, []int{0, 0}))
+		}
+	}
+	var all [][]int
+	for _, corner := range corners {
+		all = append(all, corner.([]int))
+		lists = append(lists, spacious([][]int{{0, 0}, corner.([]int)}, []int{0, 0}), spacious([][]int{corner.([]int), {2, 1}, {0, 1}}, nil))
+	}
+	return append(lists, all, all[4:9])
+}
+
+func manyBlocks() []any {
+	var blocks []any
+	for _, x := range []int{math.MinInt, -1, 0, 1, 2, 6, 7, 8, math.MaxInt} {
+		for _, y := range []int{math.MinInt, -1, 0, 1, 7, math.MaxInt} {
+			blocks = append(blocks, impl.Block{X: x, Y: y}, impl.Block{X: x, Y: y, Up: true})
+		}
+	}
+	return blocks
+}
+
+// manyCities have room behind the ends of their closed blocks, with a block there that would fit.
+func manyCities() []any {
+	cities := []any{impl.City{}, impl.City{Wide: 3, High: 2, Closed: []impl.Block{}}}
+	for _, c := range slices.Concat(noCities(), []impl.City{
+		{Wide: 1, High: 1}, {Wide: 3, High: 2}, {Wide: 8, High: 8}, {Wide: 8, High: 1}, {Wide: 1, High: 8},
+		{Wide: 3, High: 2, Closed: []impl.Block{{}}}, {Wide: 3, High: 2, Closed: []impl.Block{{}, {Up: true}}}, {Wide: 2, High: 2, Closed: blocksOf(2, 2)},
+		{Wide: 3, High: 2, Closed: []impl.Block{{Y: 1}, {X: 1}}}, {Wide: 8, High: 8, Closed: blocksOf(8, 8)[:29]}, {Wide: 8, High: 8, Closed: blocksOf(8, 8)[:30]},
+		mixedCity(8, 8, 30, 1), mixedCity(6, 6, 30, 2), mixedCity(5, 4, 10, 3), mixedCity(3, 2, 3, 4),
+	}) {
+		c.Closed = spacious(c.Closed, impl.Block{X: 6, Y: 7})
+		cities = append(cities, c)
+	}
+	return cities
+}
+
 func someTexts() []any {
 	return []any{
 		"", "r", "o5", "u1000", "u1001", "r0", "o05", "o-5", "5", " ", "\n", "\x00", "\xff", "o\xff\xfe5", "ö5", "o５",
 		"12", "12c", "9999z", "12,12c,15", "1,9999z", "0", "10000", "12A", "012", "12cc", "12-", "-12", "12,", ",12", "12,,13", "13,12", "c",
 		strings.Repeat("1,", 5000) + "1", strings.Repeat(",", 5000), strings.Repeat("9", 5000) + "z",
 		"-", "l", "r", "b", "lr", "--", "bx", "lrb-l", "lrb-l-", "-----", "lllll", "lrbxl", "LRB-L", "lr\xffbl", "lrb\n",
+		"e", "en", "nees", "wsne", "eens ", "E", "nxs", strings.Repeat("ew", 100), strings.Repeat("ew", 100) + "e", strings.Repeat("e", 5000),
+		"1x1:", "3x2:0-0", "3x2:0-0,1|0", "8x8:", "3x2:1|0,0-0", "3x2:0-0,", "3x2:2-0", "0x0:", "9x9:", "3x2", ":", "x:-", "3x2:" + strings.Repeat("0-0,", 5000),
 		strings.Repeat("-", 60), strings.Repeat("rl", 30), strings.Repeat("b", 60), strings.Repeat("l", 61), strings.Repeat("-", 5000),
 		"u99999999999999999999", strings.Repeat("o", 5000), "u" + strings.Repeat("9", 5000), "r" + strings.Repeat("0", 5000) + "1",
 	}
@@ -178,9 +247,24 @@ func valuesOf(t *testing.T, kind reflect.Type) []any {
 		return manyPlates()
 	case reflect.TypeFor[[]impl.Plate]():
 		return somePlateLists()
+	case reflect.TypeFor[impl.City]():
+		return manyCities()
+	case reflect.TypeFor[impl.Block]():
+		return manyBlocks()
+	case reflect.TypeFor[[][]int]():
+		return manyPeople()
 	}
 	t.Fatalf("no values of type %v", kind)
 	return nil
+}
+
+// valuesFor has the values of a parameter: lists of a city are tried as corners, as all of someLists would be too many for two of them.
+func valuesFor(t *testing.T, function reflect.Type, i int) []any {
+	t.Helper()
+	if function.In(i) == reflect.TypeFor[[]int]() && function.In(0) == reflect.TypeFor[impl.City]() {
+		return someCorners()
+	}
+	return valuesOf(t, function.In(i))
 }
 
 // eachCall calls visit with every choice of arguments for a function.
@@ -188,7 +272,7 @@ func eachCall(t *testing.T, function reflect.Value, visit func(arguments []refle
 	t.Helper()
 	choices := make([][]any, function.Type().NumIn())
 	for i := range choices {
-		choices[i] = valuesOf(t, function.Type().In(i))
+		choices[i] = valuesFor(t, function.Type(), i)
 	}
 	arguments := make([]reflect.Value, len(choices))
 	var choose func(i int)
@@ -219,6 +303,15 @@ func kept(arguments []reflect.Value) []any {
 			copies = append(copies, wholeCopy(value))
 		case []impl.Plate:
 			copies = append(copies, wholeCopy(value))
+		case [][]int:
+			var lists [][]int
+			for _, list := range value[:cap(value)] {
+				lists = append(lists, wholeCopy(list))
+			}
+			copies = append(copies, lists)
+		case impl.City:
+			value.Closed = wholeCopy(value.Closed)
+			copies = append(copies, value)
 		default:
 			copies = append(copies, value)
 		}
@@ -230,8 +323,20 @@ func kept(arguments []reflect.Value) []any {
 func cropped(arguments []reflect.Value) []reflect.Value {
 	var tight []reflect.Value
 	for _, argument := range arguments {
-		if argument.Kind() == reflect.Slice {
-			argument = argument.Slice3(0, argument.Len(), argument.Len())
+		switch value := argument.Interface().(type) {
+		case [][]int:
+			var lists [][]int
+			for _, list := range value {
+				lists = append(lists, slices.Clip(list))
+			}
+			argument = reflect.ValueOf(slices.Clip(lists))
+		case impl.City:
+			value.Closed = slices.Clip(value.Closed)
+			argument = reflect.ValueOf(value)
+		default:
+			if argument.Kind() == reflect.Slice {
+				argument = argument.Slice3(0, argument.Len(), argument.Len())
+			}
 		}
 		tight = append(tight, argument)
 	}
@@ -242,10 +347,15 @@ type region struct{ from, to uintptr }
 
 // regionsOf returns the memory behind all the lists in a value, up to their capacity.
 func regionsOf(v reflect.Value) []region {
-	if v.Kind() != reflect.Slice {
-		return nil
-	}
 	var found []region
+	if v.Kind() == reflect.Struct {
+		for _, field := range v.Fields() {
+			found = append(found, regionsOf(field)...)
+		}
+	}
+	if v.Kind() != reflect.Slice {
+		return found
+	}
 	if v.Cap() > 0 {
 		found = append(found, region{v.Pointer(), v.Pointer() + uintptr(v.Cap())*v.Type().Elem().Size()})
 	}
@@ -287,6 +397,9 @@ func doMeet(ours, theirs []region) bool {
 }
 
 func isNothing(v reflect.Value) bool {
+	if c, ok := v.Interface().(impl.City); ok {
+		return c.Wide == 0 && c.High == 0 && len(c.Closed) == 0
+	}
 	return v.IsZero() || v.Kind() == reflect.Slice && v.Len() == 0
 }
 
