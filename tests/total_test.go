@@ -59,6 +59,16 @@ func functionsOfChapter4() map[string]any {
 	}
 }
 
+func functionsOfChapter5() map[string]any {
+	return map[string]any{
+		"ArePeople": impl.ArePeople, "WalksTo": impl.WalksTo, "BestHouses": impl.BestHouses, "FarthestTo": impl.FarthestTo,
+		"CenterHouses": impl.CenterHouses, "BoxesSum": impl.BoxesSum, "BoxOfEach": impl.BoxOfEach, "LeastBoxesSum": impl.LeastBoxesSum,
+		"FirstBoxes": impl.FirstBoxes, "FarthestBoxes": impl.FarthestBoxes, "FewestBoxes": impl.FewestBoxes, "PeopleWithin": impl.PeopleWithin,
+		"MeanHouse": impl.MeanHouse, "SumTable": impl.SumTable, "MovedPeople": impl.MovedPeople, "MirrorPeople": impl.MirrorPeople,
+		"PeopleText": impl.PeopleText, "ParsePeople": impl.ParsePeople,
+	}
+}
+
 // functionsByFile has the functions of all chapters that are there, by the file of each chapter.
 func functionsByFile() map[string]map[string]any {
 	return map[string]map[string]any{
@@ -66,6 +76,7 @@ func functionsByFile() map[string]map[string]any {
 		"l2_insert.go": functionsOfChapter2(),
 		"l3_post.go":   functionsOfChapter3(),
 		"l4_avenue.go": functionsOfChapter4(),
+		"l5_median.go": functionsOfChapter5(),
 	}
 }
 
@@ -160,6 +171,18 @@ func someLists() []any {
 	for _, list := range [][]int{{0, 1, 0, 0, 0}, {1, 4, 5, 6, 9}, {1, 2}, {1, 120}, {2, 1}, {9, 8, 7, 6, 5, 4, 3, 20, 1, 0}} {
 		lists = append(lists, spacious(list, list[len(list)-1]+1))
 	}
+	return append(lists, somePeople()...)
+}
+
+// somePeople are given with room behind their ends, where more people and more boxes would fit.
+func somePeople() []any {
+	lists := []any{[]int(nil)}
+	for _, list := range [][]int{
+		{1}, {0, 0, 1}, {1, 0, 0, 2, 1}, {1000, 0, 999, 1}, {1, 2, 4}, {0, 3}, slices.Repeat([]int{0}, 60), slices.Repeat([]int{1, 0, 1000}, 20),
+		slices.Repeat([]int{1000}, 60), slices.Repeat([]int{1}, 61), {-1, 1}, {1, 1001}, {math.MinInt, 1}, {1, math.MaxInt, math.MaxInt},
+	} {
+		lists = append(lists, spacious(list, 5))
+	}
 	return lists
 }
 
@@ -227,7 +250,8 @@ func someTexts() []any {
 		"-", "l", "r", "b", "lr", "--", "bx", "lrb-l", "lrb-l-", "-----", "lllll", "lrbxl", "LRB-L", "lr\xffbl", "lrb\n",
 		"e", "en", "nees", "wsne", "eens ", "E", "nxs", strings.Repeat("ew", 100), strings.Repeat("ew", 100) + "e", strings.Repeat("e", 5000),
 		"1x1:", "3x2:0-0", "3x2:0-0,1|0", "8x8:", "3x2:1|0,0-0", "3x2:0-0,", "3x2:2-0", "0x0:", "9x9:", "3x2", ":", "x:-", "3x2:" + strings.Repeat("0-0,", 5000),
-		strings.Repeat("-", 60), strings.Repeat("rl", 30), strings.Repeat("b", 60), strings.Repeat("l", 61), strings.Repeat("-", 5000),
+		"1-0-0-2-1", "1-1000", "1-1001", "1--1", "1-", "-1", "0-0", "01-1", "+1-1", "1-99999999999999999999", strings.Repeat("0-", 59) + "1", strings.Repeat("1-", 60) + "1",
+		strings.Repeat("1-", 5000) + "1", strings.Repeat("-", 60), strings.Repeat("rl", 30), strings.Repeat("b", 60), strings.Repeat("l", 61), strings.Repeat("-", 5000),
 		"u99999999999999999999", strings.Repeat("o", 5000), "u" + strings.Repeat("9", 5000), "r" + strings.Repeat("0", 5000) + "1",
 	}
 }
@@ -258,11 +282,14 @@ func valuesOf(t *testing.T, kind reflect.Type) []any {
 	return nil
 }
 
-// valuesFor has the values of a parameter: lists of a city are tried as corners, as all of someLists would be too many for two of them.
+// valuesFor has the values of a parameter: where all of someLists would be too many, lists of a city are tried as corners, and lists with three numbers as people.
 func valuesFor(t *testing.T, function reflect.Type, i int) []any {
 	t.Helper()
 	if function.In(i) == reflect.TypeFor[[]int]() && function.In(0) == reflect.TypeFor[impl.City]() {
 		return someCorners()
+	}
+	if function.In(i) == reflect.TypeFor[[]int]() && function.NumIn() == 4 {
+		return somePeople()
 	}
 	return valuesOf(t, function.In(i))
 }
