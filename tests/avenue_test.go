@@ -148,18 +148,28 @@ func goByHand(c impl.City, at spot, sign byte) (spot, bool) {
 	return next, open
 }
 
-// distancesByHand shortens all distances from a corner until none can be shortened any more.
-func distancesByHand(c impl.City, from spot) map[spot]int {
+// town is what the tests go about in: its corners, and to which one comes from one of them by a sign, if one can go so.
+type town struct {
+	spots []spot
+	goes  func(at spot, sign byte) (spot, bool)
+}
+
+func townOf(c impl.City) town {
+	return town{spots: spotsOf(c), goes: func(at spot, sign byte) (spot, bool) { return goByHand(c, at, sign) }}
+}
+
+// distances shortens all distances from a corner until none can be shortened any more.
+func (o town) distances(from spot) map[spot]int {
 	distances := map[spot]int{from: 0}
 	for changed := true; changed; {
 		changed = false
-		for _, at := range spotsOf(c) {
+		for _, at := range o.spots {
 			distance, there := distances[at]
 			if !there {
 				continue
 			}
 			for _, sign := range []byte("wsne") {
-				next, open := goByHand(c, at, sign)
+				next, open := o.goes(at, sign)
 				if known, there := distances[next]; open && (!there || known > distance+1) {
 					distances[next] = distance + 1
 					changed = true
@@ -170,8 +180,8 @@ func distancesByHand(c impl.City, from spot) map[spot]int {
 	return distances
 }
 
-// wordsByHand has all words of so many blocks that lead from a corner to another one, in their order.
-func wordsByHand(c impl.City, from, to spot, blocks int) []string {
+// words has all words of so many blocks that lead from a corner to another one, in their order.
+func (o town) words(from, to spot, blocks int) []string {
 	if blocks == 0 {
 		if from == to {
 			return []string{""}
@@ -180,8 +190,8 @@ func wordsByHand(c impl.City, from, to spot, blocks int) []string {
 	}
 	var words []string
 	for _, sign := range []byte("ensw") {
-		if next, open := goByHand(c, from, sign); open {
-			for _, rest := range wordsByHand(c, next, to, blocks-1) {
+		if next, open := o.goes(from, sign); open {
+			for _, rest := range o.words(next, to, blocks-1) {
 				words = append(words, string(sign)+rest)
 			}
 		}
@@ -189,14 +199,14 @@ func wordsByHand(c impl.City, from, to spot, blocks int) []string {
 	return words
 }
 
-// walksByHand counts the words of so many blocks that lead to a corner, for each at which they begin.
-func walksByHand(c impl.City, to spot, blocks int) map[spot]int {
+// walks counts the words of so many blocks that lead to a corner, for each at which they begin.
+func (o town) walks(to spot, blocks int) map[spot]int {
 	counts := map[spot]int{to: 1}
 	for range blocks {
 		longer := map[spot]int{}
-		for _, at := range spotsOf(c) {
+		for _, at := range o.spots {
 			for _, sign := range []byte("ensw") {
-				if next, open := goByHand(c, at, sign); open {
+				if next, open := o.goes(at, sign); open {
 					longer[at] += counts[next]
 				}
 			}
@@ -204,6 +214,38 @@ func walksByHand(c impl.City, to spot, blocks int) map[spot]int {
 		counts = longer
 	}
 	return counts
+}
+
+// first takes the first sign from which there are still words of so many blocks.
+func (o town) first(a, b spot, blocks int) string {
+	word := ""
+	for blocks > 0 {
+		blocks--
+		walks := o.walks(b, blocks)
+		for _, sign := range []byte("ensw") {
+			if next, open := o.goes(a, sign); open && walks[next] > 0 {
+				word, a = word+string(sign), next
+				break
+			}
+		}
+	}
+	return word
+}
+
+// led goes a word sign by sign; there is no corner if one cannot go so.
+func (o town) led(at spot, word string) ([]int, bool) {
+	for i := range len(word) {
+		next, open := o.goes(at, word[i])
+		if !open {
+			return nil, false
+		}
+		at = next
+	}
+	return at.list(), true
+}
+
+func distancesByHand(c impl.City, from spot) map[spot]int {
+	return townOf(c).distances(from)
 }
 
 func city(t *testing.T, text string) impl.City {
@@ -326,8 +368,8 @@ func checkWay(t *testing.T, c impl.City, a, b spot, distances map[spot]int) {
 	straight, first, count := 0, "", 0
 	if there {
 		straight = max(a.x-b.x, b.x-a.x) + max(a.y-b.y, b.y-a.y)
-		count = walksByHand(c, b, distance)[a]
-		first = firstByHand(c, a, b, distance)
+		count = townOf(c).walks(b, distance)[a]
+		first = townOf(c).first(a, b, distance)
 	}
 	got, ok := impl.CornerDistance(c, a.list(), b.list())
 	wantNumber(t, told("CornerDistance", c, a.list(), b.list()), got, ok, distance, there)
@@ -340,22 +382,6 @@ func checkWay(t *testing.T, c impl.City, a, b spot, distances map[spot]int) {
 	if there {
 		checkThereAndBack(t, c, a, b, word)
 	}
-}
-
-// firstByHand takes the first sign from which there are still words of so many blocks.
-func firstByHand(c impl.City, a, b spot, blocks int) string {
-	word := ""
-	for blocks > 0 {
-		blocks--
-		walks := walksByHand(c, b, blocks)
-		for _, sign := range []byte("ensw") {
-			if next, open := goByHand(c, a, sign); open && walks[next] > 0 {
-				word, a = word+string(sign), next
-				break
-			}
-		}
-	}
-	return word
 }
 
 func checkThereAndBack(t *testing.T, c impl.City, a, b spot, word string) {
@@ -402,7 +428,7 @@ func TestWaysAgainstAllWords(t *testing.T) {
 		for _, a := range spotsOf(c) {
 			distances := distancesByHand(c, a)
 			for b, distance := range distances {
-				words := wordsByHand(c, a, b, distance)
+				words := townOf(c).words(a, b, distance)
 				got, ok := impl.CountShortestWays(c, a.list(), b.list())
 				wantNumber(t, told("CountShortestWays", c, a.list(), b.list()), got, ok, len(words), true)
 				word, ok := impl.FirstShortestWay(c, a.list(), b.list())
@@ -507,23 +533,12 @@ func wordsUpTo(most int) []string {
 	return words
 }
 
-func walkedByHand(c impl.City, at spot, word string) ([]int, bool) {
-	for i := range len(word) {
-		next, open := goByHand(c, at, word[i])
-		if !open {
-			return nil, false
-		}
-		at = next
-	}
-	return at.list(), true
-}
-
 func TestWalkWord(t *testing.T) {
 	words := wordsUpTo(4)
 	for _, c := range []impl.City{city(t, "1x1:"), city(t, "3x1:1-0"), city(t, "3x2:0-0"), city(t, "2x3:0|1,1|0"), mixedCity(4, 4, 8, 1), mixedCity(8, 8, 30, 1)} {
 		for _, at := range spotsOf(c) {
 			for _, word := range words {
-				want, wantOK := walkedByHand(c, at, word)
+				want, wantOK := townOf(c).led(at, word)
 				got, ok := impl.WalkWord(c, at.list(), word)
 				wantList(t, told("WalkWord "+word, c, at.list()), got, ok, want, wantOK)
 			}

@@ -69,6 +69,16 @@ func functionsOfChapter5() map[string]any {
 	}
 }
 
+func functionsOfChapter6() map[string]any {
+	return map[string]any{
+		"AreWays": impl.AreWays, "CanDrive": impl.CanDrive, "DriveWord": impl.DriveWord, "DriveDistance": impl.DriveDistance,
+		"FirstDrive": impl.FirstDrive, "CountDrives": impl.CountDrives, "FewestTurns": impl.FewestTurns, "TurnsOfWord": impl.TurnsOfWord,
+		"ThereAndBack": impl.ThereAndBack, "DrivenFrom": impl.DrivenFrom, "IsWholeWays": impl.IsWholeWays, "HasRing": impl.HasRing,
+		"RoundOfBlock": impl.RoundOfBlock, "CountRounds": impl.CountRounds, "TurnWay": impl.TurnWay, "BackWays": impl.BackWays,
+		"CountWholeWays": impl.CountWholeWays, "LongestDrive": impl.LongestDrive, "WaysText": impl.WaysText, "ParseWays": impl.ParseWays,
+	}
+}
+
 // functionsByFile has the functions of all chapters that are there, by the file of each chapter.
 func functionsByFile() map[string]map[string]any {
 	return map[string]map[string]any{
@@ -77,6 +87,7 @@ func functionsByFile() map[string]map[string]any {
 		"l3_post.go":   functionsOfChapter3(),
 		"l4_avenue.go": functionsOfChapter4(),
 		"l5_median.go": functionsOfChapter5(),
+		"l6_oneway.go": functionsOfChapter6(),
 	}
 }
 
@@ -242,6 +253,17 @@ func manyCities() []any {
 	return cities
 }
 
+func manyWays() []any {
+	var all []any
+	for _, w := range append(noWays(),
+		ways("ew/sn"), ways("we/ns"), ways("ee/nn"), ways("eew/ssn"), ways("ewew/ns"), ways("ewewewew/sn"), ways("ew/snsnsnsn"),
+		ways("eeeeeeee/nnnnnnnn"), ways("ewewewew/snsnsnsn"), ways("wweewewe/nsnnsnss"),
+	) {
+		all = append(all, w)
+	}
+	return all
+}
+
 func someTexts() []any {
 	return []any{
 		"", "r", "o5", "u1000", "u1001", "r0", "o05", "o-5", "5", " ", "\n", "\x00", "\xff", "o\xff\xfe5", "ö5", "o５",
@@ -250,6 +272,8 @@ func someTexts() []any {
 		"-", "l", "r", "b", "lr", "--", "bx", "lrb-l", "lrb-l-", "-----", "lllll", "lrbxl", "LRB-L", "lr\xffbl", "lrb\n",
 		"e", "en", "nees", "wsne", "eens ", "E", "nxs", strings.Repeat("ew", 100), strings.Repeat("ew", 100) + "e", strings.Repeat("e", 5000),
 		"1x1:", "3x2:0-0", "3x2:0-0,1|0", "8x8:", "3x2:1|0,0-0", "3x2:0-0,", "3x2:2-0", "0x0:", "9x9:", "3x2", ":", "x:-", "3x2:" + strings.Repeat("0-0,", 5000),
+		"n", "s", "w", "ew", "sn", "enws", "ew/sn", "we/ns", "ee/nn", "/", "ew/", "/sn", "e/n", "sn/ew", "ew/sn/", "ew//sn", "ew/sn\n", "EW/SN", "ew\xff/sn",
+		"ewewewew/snsnsnsn", "eeeeeeeee/nn", "ee/nnnnnnnnn", strings.Repeat("enws", 25), strings.Repeat("enws", 25) + "e", strings.Repeat("ew/", 5000), strings.Repeat("n", 5000),
 		"1-0-0-2-1", "1-1000", "1-1001", "1--1", "1-", "-1", "0-0", "01-1", "+1-1", "1-99999999999999999999", strings.Repeat("0-", 59) + "1", strings.Repeat("1-", 60) + "1",
 		strings.Repeat("1-", 5000) + "1", strings.Repeat("-", 60), strings.Repeat("rl", 30), strings.Repeat("b", 60), strings.Repeat("l", 61), strings.Repeat("-", 5000),
 		"u99999999999999999999", strings.Repeat("o", 5000), "u" + strings.Repeat("9", 5000), "r" + strings.Repeat("0", 5000) + "1",
@@ -277,15 +301,18 @@ func valuesOf(t *testing.T, kind reflect.Type) []any {
 		return manyBlocks()
 	case reflect.TypeFor[[][]int]():
 		return manyPeople()
+	case reflect.TypeFor[impl.Ways]():
+		return manyWays()
 	}
 	t.Fatalf("no values of type %v", kind)
 	return nil
 }
 
-// valuesFor has the values of a parameter: where all of someLists would be too many, lists of a city are tried as corners, and lists with three numbers as people.
+// valuesFor has the values of a parameter: where all of someLists would be too many, lists of a city or of ways are tried as corners, and lists with three numbers as people.
 func valuesFor(t *testing.T, function reflect.Type, i int) []any {
 	t.Helper()
-	if function.In(i) == reflect.TypeFor[[]int]() && function.In(0) == reflect.TypeFor[impl.City]() {
+	ofCorners := function.In(0) == reflect.TypeFor[impl.City]() || function.In(0) == reflect.TypeFor[impl.Ways]()
+	if function.In(i) == reflect.TypeFor[[]int]() && ofCorners {
 		return someCorners()
 	}
 	if function.In(i) == reflect.TypeFor[[]int]() && function.NumIn() == 4 {
