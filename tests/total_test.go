@@ -79,6 +79,15 @@ func functionsOfChapter6() map[string]any {
 	}
 }
 
+func functionsOfChapter7() map[string]any {
+	return map[string]any{
+		"AreCosts": impl.AreCosts, "LeastPaint": impl.LeastPaint, "FirstPaint": impl.FirstPaint, "CountPaint": impl.CountPaint, "IsPainted": impl.IsPainted,
+		"CountPaintings": impl.CountPaintings, "BestLoot": impl.BestLoot, "FirstLoot": impl.FirstLoot, "IsLoot": impl.IsLoot, "CountLoots": impl.CountLoots,
+		"FewestLamps": impl.FewestLamps, "FirstLamps": impl.FirstLamps, "CountLamps": impl.CountLamps, "LitBy": impl.LitBy, "FewestGuards": impl.FewestGuards,
+		"TurnRow": impl.TurnRow, "IsLitRow": impl.IsLitRow,
+	}
+}
+
 // functionsByFile has the functions of all chapters that are there, by the file of each chapter.
 func functionsByFile() map[string]map[string]any {
 	return map[string]map[string]any{
@@ -88,6 +97,7 @@ func functionsByFile() map[string]map[string]any {
 		"l4_avenue.go": functionsOfChapter4(),
 		"l5_median.go": functionsOfChapter5(),
 		"l6_oneway.go": functionsOfChapter6(),
+		"l7_row.go":    functionsOfChapter7(),
 	}
 }
 
@@ -179,7 +189,10 @@ func someLists() []any {
 			lists = append(lists, spacious(slices.Repeat([]int{number}, length), number))
 		}
 	}
-	for _, list := range [][]int{{0, 1, 0, 0, 0}, {1, 4, 5, 6, 9}, {1, 2}, {1, 120}, {2, 1}, {9, 8, 7, 6, 5, 4, 3, 20, 1, 0}} {
+	for _, list := range [][]int{
+		{0, 1, 0, 0, 0}, {1, 4, 5, 6, 9}, {1, 2}, {1, 120}, {2, 1}, {9, 8, 7, 6, 5, 4, 3, 20, 1, 0},
+		{0, 2}, {0, 3}, {0, 1, 2}, {2, 7, 9, 3, 1}, {4, 0, 4}, numbersUpTo(20), {0, 19}, {0, 20}, {-1, 0},
+	} {
 		lists = append(lists, spacious(list, list[len(list)-1]+1))
 	}
 	return append(lists, somePeople()...)
@@ -228,6 +241,21 @@ func manyPeople() []any {
 	return append(lists, all, all[4:9])
 }
 
+// someCosts are lists of what may be costs, with room behind all ends, where one more house or colour would fit.
+func someCosts() []any {
+	lists := []any{[][]int(nil), [][]int{}, [][]int{nil}, [][]int{{}, {}}}
+	for _, costs := range slices.Concat(noCosts(), longCosts()[:9], [][][]int{
+		{{0}}, {{1000}}, {{3, 1, 2}}, {{1}, {1}}, {{1, 5}, {5, 1}, {1, 1}}, {{1, 5}, {5, 1}, {1, 1}, {2, 2}}, sameCosts(3, 3, 0), sameCosts(20, 1, 0), sameCosts(19, 2, 1000),
+	}) {
+		var roomy [][]int
+		for _, prices := range costs {
+			roomy = append(roomy, spacious(prices, 1))
+		}
+		lists = append(lists, spacious(roomy, []int{1, 1}))
+	}
+	return lists
+}
+
 func manyBlocks() []any {
 	var blocks []any
 	for _, x := range []int{math.MinInt, -1, 0, 1, 2, 6, 7, 8, math.MaxInt} {
@@ -274,6 +302,7 @@ func someTexts() []any {
 		"1x1:", "3x2:0-0", "3x2:0-0,1|0", "8x8:", "3x2:1|0,0-0", "3x2:0-0,", "3x2:2-0", "0x0:", "9x9:", "3x2", ":", "x:-", "3x2:" + strings.Repeat("0-0,", 5000),
 		"n", "s", "w", "ew", "sn", "enws", "ew/sn", "we/ns", "ee/nn", "/", "ew/", "/sn", "e/n", "sn/ew", "ew/sn/", "ew//sn", "ew/sn\n", "EW/SN", "ew\xff/sn",
 		"ewewewew/snsnsnsn", "eeeeeeeee/nn", "ee/nnnnnnnnn", strings.Repeat("enws", 25), strings.Repeat("enws", 25) + "e", strings.Repeat("ew/", 5000), strings.Repeat("n", 5000),
+		"#", ".", "##.#", "..", "###", ".#.", "##.#\n", "#\xff#", "#.x", "＃", strings.Repeat("#", 20), strings.Repeat(".", 20), strings.Repeat("#..#.", 4), strings.Repeat("#", 21), strings.Repeat("#.", 5000),
 		"1-0-0-2-1", "1-1000", "1-1001", "1--1", "1-", "-1", "0-0", "01-1", "+1-1", "1-99999999999999999999", strings.Repeat("0-", 59) + "1", strings.Repeat("1-", 60) + "1",
 		strings.Repeat("1-", 5000) + "1", strings.Repeat("-", 60), strings.Repeat("rl", 30), strings.Repeat("b", 60), strings.Repeat("l", 61), strings.Repeat("-", 5000),
 		"u99999999999999999999", strings.Repeat("o", 5000), "u" + strings.Repeat("9", 5000), "r" + strings.Repeat("0", 5000) + "1",
@@ -303,12 +332,14 @@ func valuesOf(t *testing.T, kind reflect.Type) []any {
 		return manyPeople()
 	case reflect.TypeFor[impl.Ways]():
 		return manyWays()
+	case reflect.TypeFor[bool]():
+		return []any{false, true}
 	}
 	t.Fatalf("no values of type %v", kind)
 	return nil
 }
 
-// valuesFor has the values of a parameter: where all of someLists would be too many, lists of a city or of ways are tried as corners, and lists with three numbers as people.
+// valuesFor has the values of a parameter: where all of someLists would be too many, lists of a city or of ways are tried as corners, and lists with three numbers as people. Lists of lists are tried as corners in a city, otherwise as costs.
 func valuesFor(t *testing.T, function reflect.Type, i int) []any {
 	t.Helper()
 	ofCorners := function.In(0) == reflect.TypeFor[impl.City]() || function.In(0) == reflect.TypeFor[impl.Ways]()
@@ -317,6 +348,9 @@ func valuesFor(t *testing.T, function reflect.Type, i int) []any {
 	}
 	if function.In(i) == reflect.TypeFor[[]int]() && function.NumIn() == 4 {
 		return somePeople()
+	}
+	if function.In(i) == reflect.TypeFor[[][]int]() && !ofCorners {
+		return someCosts()
 	}
 	return valuesOf(t, function.In(i))
 }
