@@ -88,6 +88,16 @@ func functionsOfChapter7() map[string]any {
 	}
 }
 
+func functionsOfChapter8() map[string]any {
+	return map[string]any{
+		"AreParcels": impl.AreParcels, "IsBagPlan": impl.IsBagPlan, "TripsOfPlan": impl.TripsOfPlan, "LengthOfPlan": impl.LengthOfPlan,
+		"LengthWithoutBack": impl.LengthWithoutBack, "WeightsOfTrips": impl.WeightsOfTrips, "FewestTrips": impl.FewestTrips, "FirstFewestPlan": impl.FirstFewestPlan,
+		"LeastLength": impl.LeastLength, "FirstShortestPlan": impl.FirstShortestPlan, "CountShortestPlans": impl.CountShortestPlans, "PackInOrder": impl.PackInOrder,
+		"PackFarthestFirst": impl.PackFarthestFirst, "TripsBound": impl.TripsBound, "LightestBag": impl.LightestBag, "LettersLength": impl.LettersLength,
+		"LettersTrips": impl.LettersTrips, "NamedPlan": impl.NamedPlan, "ParcelsText": impl.ParcelsText, "ParseParcels": impl.ParseParcels,
+	}
+}
+
 // functionsByFile has the functions of all chapters that are there, by the file of each chapter.
 func functionsByFile() map[string]map[string]any {
 	return map[string]map[string]any{
@@ -98,6 +108,7 @@ func functionsByFile() map[string]map[string]any {
 		"l5_median.go": functionsOfChapter5(),
 		"l6_oneway.go": functionsOfChapter6(),
 		"l7_row.go":    functionsOfChapter7(),
+		"l8_bag.go":    functionsOfChapter8(),
 	}
 }
 
@@ -256,6 +267,30 @@ func someCosts() []any {
 	return lists
 }
 
+// someParcelLists are given with room behind their ends, with a parcel there that would fit.
+func someParcelLists() []any {
+	lists := []any{[]impl.Parcel(nil), []impl.Parcel{}}
+	for _, list := range slices.Concat(noParcels(), [][]impl.Parcel{
+		parcels([2]int{3, 4}, [2]int{5, 3}, [2]int{1, 2}), sameParcels(1, 1, 1), sameParcels(1, 100, 1000), sameParcels(2, 9, 5), sameParcels(4, 1, 15), sameParcels(8, 100, 1000),
+		mixedParcels(5, 9, 9, 1), mixedParcels(7, 100, 60, 2),
+	}) {
+		lists = append(lists, spacious(list, impl.Parcel{House: 2, Weight: 1}))
+	}
+	return lists
+}
+
+// somePlans are given with room behind their ends, with a trip there that there would be.
+func somePlans() []any {
+	lists := []any{[]int(nil), []int{}}
+	for _, plan := range [][]int{
+		{0}, {1}, {-1}, {math.MinInt}, {math.MaxInt}, {0, 0}, {0, 1}, {0, 2}, {0, 0, 0}, {0, 1, 0}, {0, 1, 1}, {0, 1, 2}, {0, 1, 3}, {0, math.MaxInt, 1}, {0, 0, math.MinInt}, {0, 0, 1, 1}, {0, 1, 0, 2, 1},
+		{0, 1, 2, 3, 4, 0, 1}, numbersUpTo(7), numbersUpTo(8), make([]int, 8), {0, 0, 1, 1, 2, 2, 3, 3}, numbersUpTo(9), make([]int, 9), make([]int, 100),
+	} {
+		lists = append(lists, spacious(plan, 0))
+	}
+	return lists
+}
+
 func manyBlocks() []any {
 	var blocks []any
 	for _, x := range []int{math.MinInt, -1, 0, 1, 2, 6, 7, 8, math.MaxInt} {
@@ -303,6 +338,8 @@ func someTexts() []any {
 		"n", "s", "w", "ew", "sn", "enws", "ew/sn", "we/ns", "ee/nn", "/", "ew/", "/sn", "e/n", "sn/ew", "ew/sn/", "ew//sn", "ew/sn\n", "EW/SN", "ew\xff/sn",
 		"ewewewew/snsnsnsn", "eeeeeeeee/nn", "ee/nnnnnnnnn", strings.Repeat("enws", 25), strings.Repeat("enws", 25) + "e", strings.Repeat("ew/", 5000), strings.Repeat("n", 5000),
 		"#", ".", "##.#", "..", "###", ".#.", "##.#\n", "#\xff#", "#.x", "＃", strings.Repeat("#", 20), strings.Repeat(".", 20), strings.Repeat("#..#.", 4), strings.Repeat("#", 21), strings.Repeat("#.", 5000),
+		"3*4", "3*4,5*3,1*2", "100*1000", "3*4,", ",3*4", "3*4*5", "3*", "*4", "*", "0*4", "101*4", "3*0", "3*1001", "03*4", "+3*4", "-3*-4", "3*4\n", "3\xff*4", "3*99999999999999999999",
+		strings.Repeat("1*1,", 7) + "1*1", strings.Repeat("1*1,", 8) + "1*1", strings.Repeat("3*4,", 5000) + "3*4", strings.Repeat("*", 5000),
 		"1-0-0-2-1", "1-1000", "1-1001", "1--1", "1-", "-1", "0-0", "01-1", "+1-1", "1-99999999999999999999", strings.Repeat("0-", 59) + "1", strings.Repeat("1-", 60) + "1",
 		strings.Repeat("1-", 5000) + "1", strings.Repeat("-", 60), strings.Repeat("rl", 30), strings.Repeat("b", 60), strings.Repeat("l", 61), strings.Repeat("-", 5000),
 		"u99999999999999999999", strings.Repeat("o", 5000), "u" + strings.Repeat("9", 5000), "r" + strings.Repeat("0", 5000) + "1",
@@ -324,6 +361,8 @@ func valuesOf(t *testing.T, kind reflect.Type) []any {
 		return manyPlates()
 	case reflect.TypeFor[[]impl.Plate]():
 		return somePlateLists()
+	case reflect.TypeFor[[]impl.Parcel]():
+		return someParcelLists()
 	case reflect.TypeFor[impl.City]():
 		return manyCities()
 	case reflect.TypeFor[impl.Block]():
@@ -339,12 +378,15 @@ func valuesOf(t *testing.T, kind reflect.Type) []any {
 	return nil
 }
 
-// valuesFor has the values of a parameter: where all of someLists would be too many, lists of a city or of ways are tried as corners, and lists with three numbers as people. Lists of lists are tried as corners in a city, otherwise as costs.
+// valuesFor has the values of a parameter: where all of someLists would be too many, lists of a city or of ways are tried as corners, those of parcels as plans, and lists with three numbers as people. Lists of lists are tried as corners in a city, otherwise as costs.
 func valuesFor(t *testing.T, function reflect.Type, i int) []any {
 	t.Helper()
 	ofCorners := function.In(0) == reflect.TypeFor[impl.City]() || function.In(0) == reflect.TypeFor[impl.Ways]()
 	if function.In(i) == reflect.TypeFor[[]int]() && ofCorners {
 		return someCorners()
+	}
+	if function.In(i) == reflect.TypeFor[[]int]() && function.In(0) == reflect.TypeFor[[]impl.Parcel]() {
+		return somePlans()
 	}
 	if function.In(i) == reflect.TypeFor[[]int]() && function.NumIn() == 4 {
 		return somePeople()
@@ -391,6 +433,8 @@ func kept(arguments []reflect.Value) []any {
 			copies = append(copies, wholeCopy(value))
 		case []impl.Plate:
 			copies = append(copies, wholeCopy(value))
+		case []impl.Parcel:
+			copies = append(copies, wholeCopy(value))
 		case [][]int:
 			var lists [][]int
 			for _, list := range value[:cap(value)] {
@@ -433,6 +477,18 @@ func cropped(arguments []reflect.Value) []reflect.Value {
 
 type region struct{ from, to uintptr }
 
+// canHoldLists reports whether values of a type can have lists in them: those of others need not be looked at one by one.
+func canHoldLists(kind reflect.Type) bool {
+	if kind.Kind() == reflect.Struct {
+		for i := range kind.NumField() {
+			if canHoldLists(kind.Field(i).Type) {
+				return true
+			}
+		}
+	}
+	return kind.Kind() == reflect.Slice
+}
+
 // regionsOf returns the memory behind all the lists in a value, up to their capacity.
 func regionsOf(v reflect.Value) []region {
 	var found []region
@@ -446,6 +502,9 @@ func regionsOf(v reflect.Value) []region {
 	}
 	if v.Cap() > 0 {
 		found = append(found, region{v.Pointer(), v.Pointer() + uintptr(v.Cap())*v.Type().Elem().Size()})
+	}
+	if !canHoldLists(v.Type().Elem()) {
+		return found
 	}
 	for i := range v.Len() {
 		found = append(found, regionsOf(v.Index(i))...)
