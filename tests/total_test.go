@@ -98,6 +98,14 @@ func functionsOfChapter8() map[string]any {
 	}
 }
 
+func functionsOfChapter9() map[string]any {
+	return map[string]any{
+		"IsClue": impl.IsClue, "IsPuzzle": impl.IsPuzzle, "DoesFit": impl.DoesFit, "Solutions": impl.Solutions, "CountSolutions": impl.CountSolutions, "FirstSolution": impl.FirstSolution,
+		"RangeOfSolutions": impl.RangeOfSolutions, "IsSolved": impl.IsSolved, "NeedlessClues": impl.NeedlessClues, "DropClue": impl.DropClue, "AddClue": impl.AddClue, "LeftByClues": impl.LeftByClues,
+		"BestClue": impl.BestClue, "HarderPuzzle": impl.HarderPuzzle, "MakePuzzle": impl.MakePuzzle, "PuzzleText": impl.PuzzleText, "ParsePuzzle": impl.ParsePuzzle,
+	}
+}
+
 // functionsByFile has the functions of all chapters that are there, by the file of each chapter.
 func functionsByFile() map[string]map[string]any {
 	return map[string]map[string]any{
@@ -109,6 +117,7 @@ func functionsByFile() map[string]map[string]any {
 		"l6_oneway.go": functionsOfChapter6(),
 		"l7_row.go":    functionsOfChapter7(),
 		"l8_bag.go":    functionsOfChapter8(),
+		"l9_puzzle.go": functionsOfChapter9(),
 	}
 }
 
@@ -131,7 +140,7 @@ func someInts() []any {
 func manyStreets() []any {
 	var streets []any
 	for _, kind := range []int{math.MinInt, -1, 0, 1, 2, 3, math.MaxInt} {
-		for _, plots := range []int{math.MinInt, -1, 0, 1, 2, 5, 60, 61, 1000, 1001, math.MaxInt} {
+		for _, plots := range []int{math.MinInt, -1, 0, 1, 2, 5, 20, 21, 60, 61, 1000, 1001, math.MaxInt} {
 			streets = append(streets, impl.Street{Kind: kind, Plots: plots})
 		}
 	}
@@ -291,6 +300,43 @@ func somePlans() []any {
 	return lists
 }
 
+func manyClues() []any {
+	var list []any
+	for _, kind := range []int{math.MinInt, -1, 0, 1, 2, 3, 4, 5, 6, math.MaxInt} {
+		for _, a := range []int{math.MinInt, -1, 0, 2, 9, 40, 41, math.MaxInt} {
+			for _, b := range []int{math.MinInt, -1, 0, 1, 13, 20, 40, math.MaxInt} {
+				list = append(list, impl.Clue{Kind: kind, A: a, B: b})
+			}
+		}
+	}
+	return list
+}
+
+// cluesOrNone are lists of clues, and some with something that is none, alone or behind clues.
+func cluesOrNone() [][]impl.Clue {
+	lists := [][]impl.Clue{
+		nil, clues([3]int{0, 0, 1}), clues([3]int{5, 0, 4}), clues([3]int{0, 0, 1}, [3]int{2, 5, 1}), clues([3]int{0, 0, 1}, [3]int{2, 5, 1}, [3]int{4, 3, 0}), clues([3]int{0, 0, 0}, [3]int{0, 0, 1}),
+		clues([3]int{1, 0, 0}, [3]int{4, 2, 0}, [3]int{4, 1, 0}, [3]int{3, 0, 1}, [3]int{0, 0, 0}), slices.Repeat(clues([3]int{4, 3, 0}), 6), slices.Repeat(clues([3]int{4, 3, 0}), 7), slices.Repeat(clues([3]int{0, 0, 0}), 100),
+	}
+	for k, c := range noClues() {
+		if k%7 == 0 {
+			lists = append(lists, []impl.Clue{c}, append(clues([3]int{0, 0, 0}, [3]int{2, 5, 0}), c))
+		}
+	}
+	return lists
+}
+
+// manyPuzzles have room behind the ends of their clues, with a clue there that would fit.
+func manyPuzzles() []any {
+	puzzles := []any{impl.Puzzle{}, impl.Puzzle{Street: impl.Street{Kind: 1, Plots: 10}, Clues: []impl.Clue{}}}
+	for _, list := range cluesOrNone() {
+		for _, s := range []impl.Street{{Kind: 0, Plots: 1}, {Kind: 0, Plots: 5}, {Kind: 1, Plots: 10}, {Kind: 2, Plots: 20}, {Kind: 2, Plots: 21}, {Kind: math.MinInt, Plots: math.MaxInt}} {
+			puzzles = append(puzzles, impl.Puzzle{Street: s, Clues: spacious(list, impl.Clue{Kind: 4, A: 2, B: 0})})
+		}
+	}
+	return puzzles
+}
+
 func manyBlocks() []any {
 	var blocks []any
 	for _, x := range []int{math.MinInt, -1, 0, 1, 2, 6, 7, 8, math.MaxInt} {
@@ -340,6 +386,8 @@ func someTexts() []any {
 		"#", ".", "##.#", "..", "###", ".#.", "##.#\n", "#\xff#", "#.x", "＃", strings.Repeat("#", 20), strings.Repeat(".", 20), strings.Repeat("#..#.", 4), strings.Repeat("#", 21), strings.Repeat("#.", 5000),
 		"3*4", "3*4,5*3,1*2", "100*1000", "3*4,", ",3*4", "3*4*5", "3*", "*4", "*", "0*4", "101*4", "3*0", "3*1001", "03*4", "+3*4", "-3*-4", "3*4\n", "3\xff*4", "3*99999999999999999999",
 		strings.Repeat("1*1,", 7) + "1*1", strings.Repeat("1*1,", 8) + "1*1", strings.Repeat("3*4,", 5000) + "3*4", strings.Repeat("*", 5000),
+		"o10;", "r1;", "u20;", "u21;", "o10;0.0.1", "o10;0.0.1,2.5.1", "o10;5.0.4", "o10;0.0.1,", "o10;,", "o10;0.0.2", "o10;0.0", "o10;0.0.1.0", "o10;00.0.1", "o10;-1.0.0", "o10;0.0.1\n", "o10;0.0.\xff", "o10;0.0.99999999999999999999", ";", ";0.0.1",
+		"o10;" + strings.Repeat("4.3.0,", 5) + "4.3.0", "o10;" + strings.Repeat("4.3.0,", 6) + "4.3.0", "o10;" + strings.Repeat("0.0.1,", 5000) + "0.0.1", strings.Repeat(";", 5000), "o10;" + strings.Repeat(".", 5000), strings.Repeat("o10;", 5000),
 		"1-0-0-2-1", "1-1000", "1-1001", "1--1", "1-", "-1", "0-0", "01-1", "+1-1", "1-99999999999999999999", strings.Repeat("0-", 59) + "1", strings.Repeat("1-", 60) + "1",
 		strings.Repeat("1-", 5000) + "1", strings.Repeat("-", 60), strings.Repeat("rl", 30), strings.Repeat("b", 60), strings.Repeat("l", 61), strings.Repeat("-", 5000),
 		"u99999999999999999999", strings.Repeat("o", 5000), "u" + strings.Repeat("9", 5000), "r" + strings.Repeat("0", 5000) + "1",
@@ -371,6 +419,10 @@ func valuesOf(t *testing.T, kind reflect.Type) []any {
 		return manyPeople()
 	case reflect.TypeFor[impl.Ways]():
 		return manyWays()
+	case reflect.TypeFor[impl.Clue]():
+		return manyClues()
+	case reflect.TypeFor[impl.Puzzle]():
+		return manyPuzzles()
 	case reflect.TypeFor[bool]():
 		return []any{false, true}
 	}
@@ -444,6 +496,9 @@ func kept(arguments []reflect.Value) []any {
 		case impl.City:
 			value.Closed = wholeCopy(value.Closed)
 			copies = append(copies, value)
+		case impl.Puzzle:
+			value.Clues = wholeCopy(value.Clues)
+			copies = append(copies, value)
 		default:
 			copies = append(copies, value)
 		}
@@ -464,6 +519,9 @@ func cropped(arguments []reflect.Value) []reflect.Value {
 			argument = reflect.ValueOf(slices.Clip(lists))
 		case impl.City:
 			value.Closed = slices.Clip(value.Closed)
+			argument = reflect.ValueOf(value)
+		case impl.Puzzle:
+			value.Clues = slices.Clip(value.Clues)
 			argument = reflect.ValueOf(value)
 		default:
 			if argument.Kind() == reflect.Slice {
@@ -546,6 +604,9 @@ func doMeet(ours, theirs []region) bool {
 func isNothing(v reflect.Value) bool {
 	if c, ok := v.Interface().(impl.City); ok {
 		return c.Wide == 0 && c.High == 0 && len(c.Closed) == 0
+	}
+	if p, ok := v.Interface().(impl.Puzzle); ok {
+		return p.Street == impl.Street{} && len(p.Clues) == 0
 	}
 	return v.IsZero() || v.Kind() == reflect.Slice && v.Len() == 0
 }
