@@ -623,13 +623,17 @@ func TestPeopleTextsAreReadAgain(t *testing.T) {
 	}
 }
 
-func TestParsePeopleFails(t *testing.T) {
-	for _, text := range []string{
+func noPeopleTexts() []string {
+	return []string{
 		"", " ", "-", "--", "-1", "1-", "1--1", "--1", "1- 1", " 1", "1 ", "1\n", "\n", "01", "1-00", "00-1", "1-01", "+1", "1-+1", "1,1", "1-0-0-2-1-", "-1-0-0-2-1",
 		"0", "0-0", "0-0-0-0-0", "1001", "1-1001", "1001-1", "1-99999999999999999999", "99999999999999999999", "9223372036854775807", "9223372036854775808", "18446744073709551617", "1e3",
 		"0x1", "1_0", "a", "1-a", "1.0", "1–1", "１", "\x00", "1\x00", "\xff", "1-\xff", listText(slices.Repeat([]int{1}, 61)), listText(onlyAt(60, 1, 5)) + "-0",
 		strings.Repeat("0-", 59) + "0", strings.Repeat("0", 60) + "1", strings.Repeat("1-", 5000) + "1", strings.Repeat("-", 5000), strings.Repeat("1", 5000),
-	} {
+	}
+}
+
+func TestParsePeopleFails(t *testing.T) {
+	for _, text := range noPeopleTexts() {
 		got, ok := impl.ParsePeople(text)
 		wantList(t, "ParsePeople of "+strconv.Quote(text), got, ok, nil, false)
 	}

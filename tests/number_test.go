@@ -604,13 +604,17 @@ func TestStreetTextsAreReadAgain(t *testing.T) {
 	}
 }
 
-func TestParseStreetFails(t *testing.T) {
-	for _, text := range []string{
+func noStreetTexts() []string {
+	return []string{
 		"", "r", "o", "u", "5", "r0", "o0", "u-5", "o+5", "o05", "o005", "r00", "u1001", "r1000000",
 		"O5", "x5", "ro5", "o5 ", " o5", "o 5", "o5\n", "o5u", "o1_0", "o0x5", "o5.0", "o1e2", "5o", "oo5",
 		"u9223372036854775807", "u9223372036854775808", "u18446744073709551621", "u99999999999999999999999",
 		"\x00", "\xff", "\xff5", "o\xff", "o\x005", "o５", "о5",
-	} {
+	}
+}
+
+func TestParseStreetFails(t *testing.T) {
+	for _, text := range noStreetTexts() {
 		if got, ok := impl.ParseStreet(text); got != (impl.Street{}) || ok {
 			t.Errorf("ParseStreet(%q) is %v, %t", text, got, ok)
 		}
